@@ -68,11 +68,24 @@ class Model:
     def changed(self, s):
         return s - s * Fraction(self.u, 1000) + (1 - s) * Fraction(self.v, 1000)
 
+    def following(self, s):
+        return self.changed(self.chosen(s))
+
     def ahead(self, n):
         s = self.s
         for _ in range(n):
-            s = self.changed(self.chosen(s))
+            s = self.following(s)
         return s
+
+    def even_ahead(self, n):
+        s = self.s
+        for _ in range(n):
+            s = self.changed(s)
+        return s
+
+    def way(self, s):
+        t = self.following(s)
+        return (t > s) - (t < s)
 
     def answer(self, call):
         name, numbers = call[0], call[1:]
@@ -80,7 +93,7 @@ class Model:
             return self.start(*numbers)
         if not self.started:
             return [-11]
-        if name in ("change", "share", "worths", "changed", "after"):
+        if hasattr(self, "do_" + name):
             return getattr(self, "do_" + name)(*numbers)
         if name == "go":
             if self.s.denominator > 10 ** 6:
@@ -112,18 +125,66 @@ class Model:
         return before
 
     def do_share(self, x, y):
-        if y == 0 or y > 1000 or x > y:
+        if not is_share(x, y):
             return [-22]
         self.s = Fraction(x, y)
         return [0]
 
     def do_changed(self, x, y):
-        if y == 0 or y > 1000 or x > y:
+        if not is_share(x, y):
             return [-22]
         return with_fraction(self.changed(Fraction(x, y)))
 
     def do_after(self, n):
         return [-22] if n > 3 else with_fraction(self.ahead(n))
+
+    def do_way(self):
+        return [0, self.way(self.s)]
+
+    def do_wayAt(self, x, y):
+        return [0, self.way(Fraction(x, y))] if is_share(x, y) else [-22]
+
+    def do_near(self, n):
+        if not 1 <= n <= 100:
+            return [-22]
+        ways = [self.way(Fraction(k, n)) for k in range(n + 1)]
+        return [max(k for k in range(n + 1) if min(ways[:k + 1]) >= 0)]
+
+    def do_even(self):
+        return [-33] if self.u + self.v == 0 else with_fraction(Fraction(self.v, self.u + self.v))
+
+    def do_evenAfter(self, n):
+        return [-22] if n > 5 else with_fraction(self.even_ahead(n))
+
+    def do_soon(self, x, y):
+        if not is_share(x, y):
+            return [-22]
+        reached = [k for k in range(6) if self.even_ahead(k) >= Fraction(x, y)]
+        return [min(reached)] if reached else [-33]
+
+    def rest(self):
+        """The share at which it rests if nothing changes back, or None."""
+        if self.v > 0 or self.o * 1000 >= self.w * (1000 - self.u):
+            return None
+        return Fraction(self.w * (1000 - self.u) - self.o * 1000, 1000 * (self.w - self.o))
+
+    def do_burden(self):
+        rest = self.rest()
+        return [-33] if rest is None else with_fraction(rest)
+
+    def do_lost(self):
+        rest = self.rest()
+        return [-33] if rest is None else with_fraction(1 - self.mean(rest) / self.w)
+
+    def do_ratio(self, n):
+        return [-22] if n > 10 else with_fraction(Fraction(self.w, self.o) ** n)
+
+    def do_state(self):
+        return [self.w, self.o, self.u, self.v]
+
+
+def is_share(x, y):
+    return 1 <= y <= 1000 and x <= y
 
 
 def with_fraction(f):

@@ -4,8 +4,8 @@ import unittest
 
 from helper import COUNTS, GREATEST, ask, last
 
-# What can be seen of all that an object keeps; changed and after show the change and the share's way.
-SEEN = ["told", "mean", "chosen", ("changed", 1, 3), ("changed", 0, 1), ("after", 1)]
+# What can be seen of all that an object keeps.
+SEEN = ["told", "state", "mean", "chosen", ("changed", 1, 3), ("changed", 0, 1), ("after", 1)]
 
 
 def every_other_call(number):
